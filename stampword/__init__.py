@@ -1,0 +1,1 @@
+"""Stampword: texts of pieces, and stamps that leave longer ones."""
