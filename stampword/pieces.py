@@ -1,6 +1,7 @@
-"""What is in a piece: parts(piece) and outside_names(piece).
+"""What is in a piece, and what its words mean.
 
 parts(piece) are the pieces straight within a piece, a tuple in the order of their places.
+every_piece(piece) is a list of the piece itself and of all pieces within it, in whatever order.
 outside_names(piece) are the words of its outside names, each once, a list in the order of texts.
 with_word(words, word, value) is a dict of words as it is within a let of one more.
 """
@@ -13,6 +14,17 @@ def parts(piece):
     if kind == "let" or kind == "stamp":
         return piece[2:]
     return piece[1:]
+
+
+def every_piece(piece):
+    found = []
+    # A list of what waits instead of calls within calls, so that no depth of a piece is too much.
+    waiting = [piece]
+    while len(waiting) > 0:
+        current = waiting.pop()
+        found.append(current)
+        waiting.extend(parts(current))
+    return found
 
 
 def with_word(words, word, value):
@@ -31,7 +43,6 @@ def pieces_with_lets(piece, lets):
 
 def outside_names(piece):
     found = {}
-    # A list of what waits instead of calls within calls, so that no depth of a piece is too much.
     waiting = [(piece, {})]
     while len(waiting) > 0:
         pair = waiting.pop()

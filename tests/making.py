@@ -96,3 +96,44 @@ def random_piece(source, levels, stamps):
 def random_pieces(seed, many, stamps):
     source = random.Random(seed)
     return [random_piece(source, 1 + count % 6, stamps) for count in range(many)]
+
+
+def copied_book(book):
+    """A book that shares nothing with this one that could be changed."""
+    return [(word, list(places), body) for word, places, body in book]
+
+
+def random_text(source, most, words, stamps):
+    """A piece of at most so many pieces, with stamps of these: tuples (word, number of places)."""
+    kinds = ["number", "name", "name"]
+    if most > 3:
+        kinds = ["number", "name", "sum", "less", "choose", "let", "let", "let"]
+    fitting = [stamp for stamp in stamps if stamp[1] < most]
+    kind = source.choice(kinds + ["stamp"] * 3 if fitting else kinds)
+    if kind == "number":
+        return num(source.choice((0, 1, 2, -3)))
+    if kind == "name":
+        return name(source.choice(words))
+    if kind == "stamp":
+        head, many = source.choice(fitting)
+        head = ("stamp", head)
+    else:
+        many = 3 if kind == "choose" else 2
+        head = ("let", source.choice(words)) if kind == "let" else (kind,)
+    inner = ()
+    left = most - 1
+    while len(inner) < many:
+        after = many - len(inner) - 1
+        inner += (random_text(source, source.randint(1, left - after), words, stamps),)
+        left -= size(inner[-1])
+    return head + inner
+
+
+def random_book(source, words, endless):
+    """A book of one to three stamps; they only use those that come later, unless it may be endless."""
+    uses = [(word, source.randrange(3)) for word in ("s", "t", "x")[:source.randint(1, 3)]]
+    book = []
+    for at, (word, many) in enumerate(uses):
+        within = uses if endless and source.randrange(3) == 0 else uses[at + 1:]
+        book.append((word, source.sample(words, many), random_text(source, source.randint(1, 16), words, within)))
+    return book, uses

@@ -31,6 +31,13 @@ WALKERS = ("list", "tuple", "dict", "sorted", "sum", "any", "all", "enumerate", 
 WORDS_OUT = re.compile(r"\b(type|typing|typing_extensions|enum|Enum|IntEnum|StrEnum|Flag|IntFlag|Generic"
                        r"|Protocol|ABC|ABCMeta|namedtuple|NamedTuple|TypedDict|TYPE_CHECKING|abstractmethod)\b"
                        r"|dataclass|overload|contextmanager")
+NAMES_OUT = set("""register mro elements open input version_info with_traceback add_note attrgetter breakpoint builtins
+    compile copyright credits delattr dir eval exec exit gc getattr globals hasattr help id importlib license locals
+    methodcaller os quit setattr super type vars sys chr print format format_map""".split())
+VALUES_LIKE_PYTHONS = set("count index title find get join lower upper split strip copy add".split())
+PYTHONS_OWN = set(dir(str) + dir(int) + dir(list) + dir(tuple) + dir(dict) + dir(set) + dir(bytes))
+KEYWORDS = {"sorted": ("key", "reverse"), "min": ("key", "default"), "max": ("key", "default"), "sum": ("start",),
+            "enumerate": ("start",), "zip": ("strict",)}
 TWO_UNDERSCORES = ("__init__", "__eq__", "__repr__", "__str__", "__len__")
 
 
@@ -49,14 +56,17 @@ def imported_names(tree):
     return [alias.name for node in ast.walk(tree) if isinstance(node, ast.ImportFrom) for alias in node.names]
 
 
-def class_members(tree):
-    members = set()
-    for node in ast.walk(tree):
-        if isinstance(node, ast.ClassDef):
-            members |= {part.name for part in node.body if isinstance(part, ast.FunctionDef)}
-        if isinstance(node, ast.Attribute) and isinstance(node.ctx, ast.Store):
-            members.add(node.attr)
-    return members
+def class_methods(tree):
+    classes = [node for node in ast.walk(tree) if isinstance(node, ast.ClassDef)]
+    return [part.name for node in classes for part in node.body if isinstance(part, ast.FunctionDef)]
+
+
+def class_values(tree):
+    return [node.attr for node in ast.walk(tree) if isinstance(node, ast.Attribute) and isinstance(node.ctx, ast.Store)]
+
+
+def drawn_from(tree):
+    return [node.module.split(".")[1] for node in ast.walk(tree) if isinstance(node, ast.ImportFrom)]
 
 
 def is_walked(node):
@@ -115,6 +125,18 @@ class Language(unittest.TestCase):
             for alias in node.names:
                 self.assertIn(alias.name, bound_names(self.trees[source]), place)
 
+    def test_l16_no_two_files_draw_from_one_another(self):
+        drawn = {path.stem: drawn_from(tree) for path, tree in self.trees.items()}
+        for stem in drawn:
+            seen, waiting = set(), list(drawn[stem])
+            while waiting:
+                current = waiting.pop()
+                self.assertNotEqual(current, stem)
+                if current not in seen:
+                    seen.add(current)
+                    waiting += drawn[current]
+        self.assertEqual(len(self.trees[PACKAGE / "__init__.py"].body), 1)
+
     def test_l3_l15_top_of_a_file(self):
         for path, tree in self.trees.items():
             for at, node in enumerate(tree.body):
@@ -124,6 +146,19 @@ class Language(unittest.TestCase):
             tops += [target.id for node in tree.body if isinstance(node, ast.Assign) for target in node.targets]
             tops += imported_names(tree)
             self.assertEqual(len(tops), len(set(tops)), path.name)
+            for node in tree.body:
+                if isinstance(node, ast.Assign):
+                    self.assertIsInstance(node.value, (ast.Constant, ast.Tuple), f"{path.name}:{node.lineno}")
+
+    def test_l15_parameters_and_locals(self):
+        for path, tree in self.trees.items():
+            kept = imported_names(tree) + [node.name for node in tree.body if isinstance(node, ast.ClassDef)]
+            for node in ast.walk(tree):
+                if isinstance(node, (ast.FunctionDef, ast.Lambda)):
+                    names = [part.id for part in ast.walk(node)
+                             if isinstance(part, ast.Name) and isinstance(part.ctx, ast.Store)]
+                    names += [part.arg for part in ast.walk(node) if isinstance(part, ast.arg)]
+                    self.assertEqual(set(names) & (set(kept) | set(dir(builtins))), set(), f"{path.name}:{node.lineno}")
 
     def test_l4_l21_functions(self):
         for place, node in self.each_node((ast.FunctionDef, ast.Lambda)):
@@ -138,6 +173,21 @@ class Language(unittest.TestCase):
             self.assertFalse(node.decorator_list or node.keywords or len(node.bases) > 1, place)
             for part in node.body:
                 self.assertIsInstance(part, (ast.FunctionDef, ast.Pass), place)
+            names = [part.name for part in node.body if isinstance(part, ast.FunctionDef)]
+            self.assertEqual(len(names), len(set(names)), place)
+        for place, node in self.each_node(ast.FunctionDef):
+            if node.name == "__init__":
+                self.assertFalse([part for part in ast.walk(node) if isinstance(part, ast.Return)], place)
+
+    def test_l18_l26_methods_and_values(self):
+        methods = [name for tree in self.trees.values() for name in class_methods(tree)]
+        values = [name for tree in self.trees.values() for name in class_values(tree)]
+        self.assertEqual(set(methods) & set(values), set())
+        self.assertEqual(set(values) & (PYTHONS_OWN - VALUES_LIKE_PYTHONS), set())
+        self.assertEqual(set(methods) & (PYTHONS_OWN - METHODS - {"add", "discard"} - set(TWO_UNDERSCORES)), set())
+        for place, node in self.each_node(ast.Attribute):
+            if isinstance(node.ctx, ast.Store):
+                self.assertIsInstance(node.value, ast.Name, place)
 
     def test_l6_statements(self):
         for place, node in self.each_node(ast.stmt):
@@ -176,6 +226,19 @@ class Language(unittest.TestCase):
                 if isinstance(node, ast.Name):
                     self.assertIn(node.id, known, f"{path.name}:{node.lineno}")
 
+    def test_l17_l27_names_that_are_not_used(self):
+        for place, node in self.each_node((ast.Name, ast.Attribute)):
+            self.assertNotIn(node.id if isinstance(node, ast.Name) else node.attr, NAMES_OUT, place)
+        for path, text in self.texts.items():
+            self.assertNotIn("%", re.sub(r" % (?=[a-z(])", "", text), path.name)
+            self.assertIsNone(re.search(r"\\[^nt\\'\"]", text), path.name)
+
+    def test_l22_keywords(self):
+        for place, node in self.each_node(ast.Call):
+            allowed = KEYWORDS.get(getattr(node.func, "id", ""), ())
+            for keyword in node.keywords:
+                self.assertIn(keyword.arg, allowed, place)
+
     def test_l17_words_that_stand_nowhere(self):
         for path, text in self.texts.items():
             self.assertIsNone(WORDS_OUT.search(text), path.name)
@@ -200,11 +263,13 @@ class Language(unittest.TestCase):
                     self.assertIn(node, places, f"{path.name}:{node.lineno}")
 
     def test_l25_l26_methods(self):
-        members = set()
-        for tree in self.trees.values():
-            members |= class_members(tree)
+        methods = METHODS | {name for tree in self.trees.values() for name in class_methods(tree)}
+        values = {name for tree in self.trees.values() for name in class_values(tree)}
+        called = [id(node.func) for _, node in self.each_node(ast.Call)]
         for place, node in self.each_node(ast.Attribute):
-            self.assertIn(node.attr, METHODS | members | {"__init__"}, place)
+            self.assertIn(node.attr, methods | values, place)
+            if node.attr not in values:
+                self.assertIn(id(node), called, place)
 
 
 if __name__ == "__main__":
